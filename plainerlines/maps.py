@@ -3,23 +3,30 @@
 A going is a tuple: the line's number, the point's number, the point's worth.
 """
 
-from plainerlines.shapes import Line, bend, in_triangle, is_sound, lines_meet
+from plainerlines.shapes import Line, bend, doubled_area, in_triangle, is_on, is_sound, lines_meet, turns_round
 
 LINE = 0
 DROP = 1
 ORDER = 2
 WORTH = 3
+SHOWN = 4
+COUNTS = 5
+FEW = 6
+AREA = 7
 
-# How many whole numbers stand behind the number of drop, order, worth and shown.
+# How many whole numbers stand behind the number of each call but line.
 # A line has a row too and is measured by that.
-NUMBERS = {1: 1, 2: 0, 3: 2, 4: 2}
+NUMBERS = {1: 1, 2: 0, 3: 2, 4: 2, 5: 1, 6: 1, 7: 2, 8: 4}
 
 NOT_GRANTED = -1
 NOT_SOUND = -2
 NO_LINE = -3
 NO_POINT = -4
+NO_RING = -4
 TOO_MANY_LINES = -5
 LINES_MEET = -6
+ON_THE_RING = -6
+NEVER_SO_FEW = -7
 
 MOST_LINES = 4
 MOST_POINTS = 12
@@ -102,6 +109,26 @@ def goings_of(lines):
     return goings
 
 
+# For each line a dict of its points' worths; a point that never goes is not in it.
+def worths_of(lines):
+    found = [{} for line in lines]
+    for going in goings_of(lines):
+        found[going[0]][going[1]] = going[2]
+    return found
+
+
+# For each line the numbers of its points that are shown at t.
+def shown_of(lines, t):
+    found = []
+    for line, worths in zip(lines, worths_of(lines)):
+        found.append([i for i in range(len(line.points)) if i not in worths or worths[i] >= t])
+    return found
+
+
+def line_shown(lines, t, k):
+    return Line(lines[k].ring, [lines[k].points[i] for i in shown_of(lines, t)[k]])
+
+
 # What each call answers is a list; a refusal is a list of its number alone.
 class Map:
     def __init__(self):
@@ -133,27 +160,50 @@ class Map:
             answer.extend(list(going))
         return answer
 
-    def worths(self, k):
-        found = {}
-        for going in goings_of(self.lines):
-            if going[0] == k:
-                found[going[1]] = going[2]
-        return found
-
     def worth(self, k, i):
         if k >= len(self.lines):
             return [NO_LINE]
         if i >= len(self.lines[k].points):
             return [NO_POINT]
-        worths = self.worths(k)
+        worths = worths_of(self.lines)[k]
         return [1, worths[i]] if i in worths else [0]
 
     def shown(self, t, k):
         if k >= len(self.lines):
             return [NO_LINE]
-        worths = self.worths(k)
-        points = [i for i in range(len(self.lines[k].points)) if i not in worths or worths[i] >= t]
+        points = shown_of(self.lines, t)[k]
         return [len(points)] + points
+
+    def counts(self, t):
+        return [len(points) for points in shown_of(self.lines, t)]
+
+    def few(self, n):
+        too_many = sum([len(line.points) for line in self.lines]) - n
+        if too_many <= 0:
+            return [0]
+        goings = goings_of(self.lines)
+        if too_many > len(goings):
+            return [NEVER_SO_FEW]
+        # Worths never fall from one going to the next, so the last one that is needed tells for all.
+        return [goings[too_many - 1][2] + 1]
+
+    def area(self, t, k):
+        if k >= len(self.lines):
+            return [NO_LINE]
+        if not self.lines[k].ring:
+            return [NO_RING]
+        return [0, doubled_area(line_shown(self.lines, t, k))]
+
+    # This is the call round, a name that Python has for something else.
+    def turns(self, t, k, place):
+        if k >= len(self.lines):
+            return [NO_LINE]
+        if not self.lines[k].ring:
+            return [NO_RING]
+        ring = line_shown(self.lines, t, k)
+        if is_on(place, ring):
+            return [ON_THE_RING]
+        return [0, turns_round(place, ring)]
 
 
 def answer_one(the_map, call):
@@ -165,7 +215,15 @@ def answer_one(the_map, call):
         return the_map.order()
     if call[0] == WORTH:
         return the_map.worth(call[1], call[2])
-    return the_map.shown(call[1], call[2])
+    if call[0] == SHOWN:
+        return the_map.shown(call[1], call[2])
+    if call[0] == COUNTS:
+        return the_map.counts(call[1])
+    if call[0] == FEW:
+        return the_map.few(call[1])
+    if call[0] == AREA:
+        return the_map.area(call[1], call[2])
+    return the_map.turns(call[1], call[2], (call[3], call[4]))
 
 
 def length_at(calls, at):

@@ -92,3 +92,25 @@ def lines_meet(line, other):
             if stretches_meet(one, another):
                 return True
     return False
+
+
+def is_on(place, line):
+    return any([on_stretch(place, stretch) for stretch in stretches_of(line)])
+
+
+# For a ring: above 0 where it runs counterclockwise, below 0 where clockwise.
+def doubled_area(ring):
+    return sum([start[0] * end[1] - start[1] * end[0] for start, end in stretches_of(ring)])
+
+
+# For a ring and a place that is not on it. Counted is what crosses the level straight from the
+# place to the right: upwards is counterclockwise, downwards clockwise. A stretch has its lower
+# end and not its upper one, so where two stretches join on that straight none counts twice.
+def turns_round(place, ring):
+    turns = 0
+    for start, end in stretches_of(ring):
+        if start[1] <= place[1] < end[1] and bend(start, end, place) > 0:
+            turns += 1
+        if end[1] <= place[1] < start[1] and bend(start, end, place) < 0:
+            turns -= 1
+    return turns

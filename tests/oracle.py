@@ -75,6 +75,29 @@ def covered(p, a, b, c):
     return doubled(a, b, p) + doubled(b, c, p) + doubled(c, a, p) == doubled(a, b, c)
 
 
+# No place with whole numbers in reach lies that way from another, so nothing is ever met at its end.
+UPWARDS = (1, 2 ** 70)
+
+
+def on(p, ring, points):
+    return any(doubled(u, v, p) == 0 and min(u, v) <= p <= max(u, v) for u, v in stretches(ring, points))
+
+
+def times_round(p, points):
+    """Counts the stretches that pass the way upwards from p, to the left less to the right."""
+    count = 0
+    for u, v in stretches(True, points):
+        before, after = minus(u, p), minus(v, p)
+        turn = cross(before, after)
+        from_right = cross(UPWARDS, before) < 0
+        to_right = cross(UPWARDS, after) < 0
+        if from_right and not to_right and turn > 0:
+            count += 1
+        if to_right and not from_right and turn < 0:
+            count -= 1
+    return count
+
+
 class Oracle:
     def __init__(self):
         self.lines = []
@@ -148,8 +171,36 @@ class Oracle:
         numbers = [i for i in range(len(self.lines[k][1])) if i not in hidden]
         return [len(numbers)] + numbers
 
+    def counts(self, t):
+        return [self.shown(t, k)[0] for k in range(len(self.lines))]
+
+    def few(self, n):
+        for t in sorted({0} | {value + 1 for line, number, value in self.goings()}):
+            if sum(self.counts(t)) <= n:
+                return [t]
+        return [-7]
+
+    def refused_as_ring(self, k):
+        if k >= len(self.lines):
+            return [-3]
+        return None if self.lines[k][0] else [-4]
+
+    def drawn(self, t, k):
+        return [self.lines[k][1][i] for i in self.shown(t, k)[1:]]
+
+    def area(self, t, k):
+        if self.refused_as_ring(k):
+            return self.refused_as_ring(k)
+        return [0, sum((u[0] + v[0]) * (v[1] - u[1]) for u, v in stretches(True, self.drawn(t, k)))]
+
+    def round(self, t, k, x, y):
+        if self.refused_as_ring(k):
+            return self.refused_as_ring(k)
+        points = self.drawn(t, k)
+        return [-6] if on((x, y), True, points) else [0, times_round((x, y), points)]
+
     def told(self, call):
         if call[0] == 0:
             return self.line(call[1], call[3:])
-        asked = {1: self.drop, 2: self.order, 3: self.worth, 4: self.shown}
+        asked = (None, self.drop, self.order, self.worth, self.shown, self.counts, self.few, self.area, self.round)
         return asked[call[0]](*call[1:])

@@ -37,6 +37,23 @@ def shown(t, k):
     return [4, t, k]
 
 
+def counts(t):
+    return [5, t]
+
+
+def few(n):
+    return [6, n]
+
+
+def area(t, k):
+    return [7, t, k]
+
+
+def turns(t, k, x, y):
+    """The call round."""
+    return [8, t, k, x, y]
+
+
 def joined(calls):
     return [number for call in calls for number in call]
 
@@ -55,6 +72,11 @@ def taken_apart(given):
 
 def ask(*calls):
     return taken_apart(answers(joined(calls)))
+
+
+def behind(lines, *calls):
+    """What the calls behind the lines answer."""
+    return ask(*lines, *calls)[len(lines):]
 
 
 def last(*calls):

@@ -8,18 +8,54 @@ import unittest
 from unittest import mock
 
 from plainerlines.maps import answers
-from tests.spelling import drop, joined, order, ring, shown, way, worth
+from tests.spelling import (
+    GREATEST, area, ask, counts, drop, few, joined, order, raw_line, ring, shown, turns, way, worth,
+)
 
-MIXED = joined([
-    order(), way((0, 0), (10, 10), (20, 0)), ring((100, 100), (110, 100), (110, 110), (100, 110)), order(),
-    worth(0, 1), worth(0, 0), worth(1, 9), shown(150, 0), shown(150, 1), shown(201, 0), way((5, 5)),
-    way((10, 0), (10, 20)), drop(0), order(), shown(101, 0), worth(1, 0), drop(0), drop(0),
-])
-MIXED_TOLD = [
-    1, 0, 1, 0, 1, 1, 7, 2, 1, 0, 100, 0, 1, 200,
-    2, 1, 200, 1, 0, 1, -4, 4, 3, 0, 1, 2, 4, 3, 1, 2, 3, 3, 2, 0, 2, 1, -1,
-    1, -6, 1, 1, 4, 1, 0, 0, 100, 4, 3, 1, 2, 3, 1, -3, 1, 0, 1, -3,
-]
+# Thirty calls of all nine kinds, each with what it answers.
+STORY = (
+    (counts(0), []),
+    (few(0), [0]),
+    (way((0, 0), (10, 10), (20, 0)), [0]),
+    (ring((100, 100), (110, 100), (110, 110), (100, 110)), [1]),
+    (order(), [2, 1, 0, 100, 0, 1, 200]),
+    (counts(101), [3, 3]),
+    (few(6), [101]),
+    (few(5), [201]),
+    (few(4), [-7]),
+    (area(0, 1), [0, 200]),
+    (area(101, 1), [0, 100]),
+    (area(0, 0), [-4]),
+    (turns(0, 1, 102, 102), [0, 1]),
+    (turns(101, 1, 102, 102), [0, 0]),
+    (turns(101, 1, 105, 105), [-6]),
+    (turns(0, 0, 10, 10), [-4]),
+    (turns(0, 2, 10, 10), [-3]),
+    (way((5, 5)), [-1]),
+    (way((10, 0), (10, 20)), [-6]),
+    (counts(0), [3, 4]),
+    (worth(0, 1), [1, 200]),
+    (drop(0), [1]),
+    (area(4294967295, 0), [0, 100]),
+    (shown(101, 0), [3, 1, 2, 3]),
+    (worth(0, 0), [1, 100]),
+    (ring((200, 100), (200, 110), (210, 110), (220, 100)), [1]),
+    (area(0, 1), [0, -300]),
+    (turns(0, 1, 205, 105), [0, -1]),
+    (drop(5), [-3]),
+    (counts(101), [3, 3]),
+)
+MIXED = joined([call for call, answer in STORY])
+MIXED_TOLD = joined([[len(answer)] + answer for call, answer in STORY])
+
+
+def depth():
+    frame = sys._getframe()
+    found = 0
+    while frame is not None:
+        found += 1
+        frame = frame.f_back
+    return found
 
 
 class Watched(list):
@@ -41,10 +77,27 @@ class Spelling(unittest.TestCase):
         self.assertEqual(answers([2]), [1, 0])
         self.assertEqual(answers([3, 0, 0]), [1, -3])
         self.assertEqual(answers([4, 0, 0]), [1, -3])
+        self.assertEqual(answers([5, 0]), [0])
+        self.assertEqual(answers([6, 0]), [1, 0])
+        self.assertEqual(answers([7, 0, 0]), [1, -3])
+        self.assertEqual(answers([8, 0, 0, 0, 0]), [1, -3])
+
+    def test_the_first_number_of_area_and_round_is_0(self):
+        clockwise = [0, 1, 6, 0, 0, 0, 7, 7, 0]
+        self.assertEqual(answers(clockwise + [7, 0, 0]), [1, 0, 2, 0, -49])
+        self.assertEqual(answers(clockwise + [8, 0, 0, 2, 3]), [1, 0, 2, 0, -1])
 
     def test_t_is_ahead_of_k(self):
         self.assertEqual(answers([0, 0, 4, 0, 0, 7, 7, 4, 1, 0]), [1, 0, 3, 2, 0, 1])
         self.assertEqual(answers([0, 0, 4, 0, 0, 7, 7, 4, 0, 1]), [1, 0, 1, -3])
+        self.assertEqual(answers([0, 1, 6, 0, 0, 7, 0, 0, 7, 7, 1, 0]), [1, 0, 2, 0, 49])
+        self.assertEqual(answers([0, 1, 6, 0, 0, 7, 0, 0, 7, 7, 0, 1]), [1, 0, 1, -3])
+        self.assertEqual(answers([0, 1, 6, 0, 0, 7, 0, 0, 7, 8, 1, 0, 2, 3]), [1, 0, 2, 0, 1])
+        self.assertEqual(answers([0, 1, 6, 0, 0, 7, 0, 0, 7, 8, 0, 1, 2, 3]), [1, 0, 1, -3])
+
+    def test_x_is_ahead_of_y(self):
+        self.assertEqual(answers([0, 1, 6, 0, 0, 20, 0, 0, 4, 8, 0, 0, 9, 2]), [1, 0, 2, 0, 1])
+        self.assertEqual(answers([0, 1, 6, 0, 0, 20, 0, 0, 4, 8, 0, 0, 2, 9]), [1, 0, 2, 0, 0])
 
     def test_k_is_ahead_of_i(self):
         self.assertEqual(answers([0, 0, 4, 0, 0, 7, 7, 3, 0, 2]), [1, 0, 1, -4])
@@ -55,10 +108,47 @@ class Spelling(unittest.TestCase):
             self.assertEqual(answers([0, 0, len(numbers)] + numbers + [2]), [1, -1, 1, 0])
 
     def test_all_kinds_in_one_list(self):
+        self.assertEqual({call[0] for call, answer in STORY}, set(range(9)))
         self.assertEqual(answers(MIXED), MIXED_TOLD)
 
+    def test_each_beginning_of_such_a_list(self):
+        for count in range(1, len(STORY) + 1):
+            told = ask(*[call for call, answer in STORY[:count]])
+            self.assertEqual(told, [answer for call, answer in STORY[:count]])
+
+    def test_without_what_was_refused_the_rest_is_the_same(self):
+        kept = [(call, answer) for call, answer in STORY if min([0] + answer[:1]) == 0]
+        self.assertEqual(ask(*[call for call, answer in kept]), [answer for call, answer in kept])
+
     def test_thirty_calls(self):
+        self.assertEqual(len(STORY), 30)
         self.assertEqual(answers([2] * 30), [1, 0] * 30)
+        self.assertEqual(answers([5, 0] * 30), [0] * 30)
+
+    def test_the_greatest_number_wherever_a_number_stands(self):
+        most = GREATEST
+        calls = [
+            raw_line(most, [1, 1, 5, 5]), raw_line(0, [most] * 40), raw_line(1, [most] * 39), drop(most),
+            worth(most, most), shown(most, most), few(most), area(most, most), turns(most, most, most, most),
+        ]
+        refused = [[-1], [-1], [-1], [-3], [-3], [-3], [0], [-3], [-3]]
+        self.assertEqual(ask(*calls, counts(most)), refused + [[]])
+        here = ring((0, 0), (9, 0), (0, 9))
+        rest = [worth(0, most), shown(most, 0), counts(most), area(most, 0), turns(most, 0, most, most)]
+        self.assertEqual(ask(here, *calls, *rest), [[0]] + refused + [[-4], [3, 0, 1, 2], [3], [0, 81], [0, 0]])
+
+    def test_the_longest_list(self):
+        calls = joined([raw_line(0, [7] * 40)] * 29 + [order()])
+        self.assertEqual(answers(calls), [1, -1] * 29 + [1, 0])
+
+    def test_nothing_goes_deep(self):
+        before = sys.getrecursionlimit()
+        sys.setrecursionlimit(depth() + 30)
+        try:
+            given = answers(MIXED)
+        finally:
+            sys.setrecursionlimit(before)
+        self.assertEqual(given, MIXED_TOLD)
 
 
 class LeftAlone(unittest.TestCase):
@@ -88,6 +178,13 @@ class LeftAlone(unittest.TestCase):
     def test_nothing_is_kept(self):
         answers(joined([way((0, 0), (10, 10), (20, 0))]))
         self.assertEqual(answers([2, 1, 0, 4, 0, 0]), [1, 0, 1, -3, 1, -3])
+        self.assertEqual(answers([5, 0, 6, 0, 7, 0, 0, 8, 0, 0, 0, 0]), [0, 1, 0, 1, -3, 1, -3])
+
+    def test_another_list_in_between(self):
+        other = joined([ring((0, 0), (9, 0), (9, 9), (0, 9)), few(3), area(82, 0), counts(82)])
+        for turn in range(2):
+            self.assertEqual(answers(MIXED), MIXED_TOLD)
+            self.assertEqual(answers(other), [1, 0, 1, 82, 2, 0, 81, 1, 3])
 
     def test_nothing_is_printed_read_or_imported(self):
         out = io.StringIO()

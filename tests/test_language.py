@@ -33,6 +33,10 @@ UNUSED_WORDS = set(
 )
 
 
+KEPT_BY_NOBODY = set("zip enumerate reversed range items keys values".split())
+WALKERS = set("list tuple dict sorted sum any all enumerate zip min max join".split())
+
+
 def sources():
     return sorted(path for path in PACKAGE.rglob("*") if path.is_file() and path.suffix != ".pyc")
 
@@ -47,6 +51,36 @@ def nodes(kinds):
 
 def is_docstring(tree, node):
     return tree.body and tree.body[0] is node and isinstance(node.value, ast.Constant)
+
+
+def top_names(tree):
+    """Every name that a file's top binds, as often as it binds it."""
+    found = []
+    for node in tree.body:
+        if isinstance(node, ast.ImportFrom):
+            found.extend(alias.asname or alias.name for alias in node.names)
+        if isinstance(node, ast.Assign):
+            found.extend(target.id for target in node.targets)
+        if isinstance(node, (ast.FunctionDef, ast.ClassDef)):
+            found.append(node.name)
+    return found
+
+
+def called_name(node):
+    if isinstance(node.func, ast.Attribute):
+        return node.func.attr
+    return node.func.id if isinstance(node.func, ast.Name) else None
+
+
+def walked_on_the_spot(tree):
+    """The calls that stand where what they answer is walked and not kept."""
+    found = []
+    for node in ast.walk(tree):
+        if isinstance(node, (ast.For, ast.comprehension)):
+            found.append(node.iter)
+        if isinstance(node, ast.Call) and called_name(node) in WALKERS:
+            found.extend(node.args)
+    return found
 
 
 class Files(unittest.TestCase):
@@ -103,6 +137,15 @@ class Form(unittest.TestCase):
             if any(isinstance(sign, (ast.Is, ast.IsNot)) for sign in node.ops):
                 self.assertIsInstance(node.comparators[0], ast.Constant, f"{name}:{node.lineno}")
 
+    def test_a_files_top(self):
+        for name, tree in trees():
+            for node in tree.body:
+                if isinstance(node, ast.Assign):
+                    self.assertEqual([type(target) for target in node.targets], [ast.Name], f"{name}:{node.lineno}")
+                    self.assertIsNotNone(ast.literal_eval(node.value), f"{name}:{node.lineno}")
+                elif not is_docstring(tree, node):
+                    self.assertIsInstance(node, (ast.ImportFrom, ast.FunctionDef, ast.ClassDef), f"{name}:{node.lineno}")
+
     def test_defs(self):
         for name, node in nodes(ast.FunctionDef):
             where = f"{name}:{node.lineno}"
@@ -116,7 +159,59 @@ class Form(unittest.TestCase):
                 self.assertIsInstance(part, ast.FunctionDef, f"{name}:{part.lineno}")
 
 
+    def test_what_is_walked_at_once(self):
+        for name, tree in trees():
+            walked = walked_on_the_spot(tree)
+            for node in ast.walk(tree):
+                if isinstance(node, ast.Call) and called_name(node) in KEPT_BY_NOBODY:
+                    self.assertTrue(any(node is other for other in walked), f"{name}:{node.lineno}")
+
+    def test_sets_are_only_counted(self):
+        for name, tree in trees():
+            counted = [node.args[0] for node in ast.walk(tree) if isinstance(node, ast.Call)
+                       and called_name(node) in ("len", "sorted")]
+            for node in ast.walk(tree):
+                if isinstance(node, ast.Call) and called_name(node) in ("set", "frozenset"):
+                    self.assertTrue(any(node is other for other in counted), f"{name}:{node.lineno}")
+
+    def test_no_def_comes_back_to_itself(self):
+        calls = {}
+        for name, node in nodes(ast.FunctionDef):
+            self.assertNotIn(node.name, set(calls) - {"__init__"}, f"{name}:{node.lineno}: two defs of one name")
+            calls[node.name] = {called_name(part) for part in ast.walk(node) if isinstance(part, ast.Call)}
+        for start in calls:
+            reached = set()
+            ahead = set(calls[start])
+            while ahead:
+                one = ahead.pop()
+                reached.add(one)
+                ahead |= calls.get(one, set()) - reached
+            self.assertNotIn(start, reached)
+
+
 class Names(unittest.TestCase):
+    def test_each_name_of_a_files_top_once(self):
+        for name, tree in trees():
+            names = top_names(tree)
+            self.assertEqual(sorted(names), sorted(set(names)), name)
+
+    def test_no_local_is_called_like_a_class_or_an_import(self):
+        for name, tree in trees():
+            taken = {alias.name for node in tree.body if isinstance(node, ast.ImportFrom) for alias in node.names}
+            taken |= {node.name for node in tree.body if isinstance(node, ast.ClassDef)}
+            for node in ast.walk(tree):
+                if isinstance(node, ast.arg):
+                    self.assertNotIn(node.arg, taken, f"{name}:{node.lineno}")
+                if isinstance(node, ast.Name) and isinstance(node.ctx, ast.Store):
+                    self.assertNotIn(node.id, taken, f"{name}:{node.lineno}")
+
+    def test_names_of_methods_and_values_are_free(self):
+        pythons = {word for kind in (str, int, list, tuple, dict, set, bytes) for word in vars(kind)}
+        methods = {part.name for name, node in nodes(ast.ClassDef) for part in node.body}
+        values = {node.attr for name, node in nodes(ast.Attribute) if isinstance(node.ctx, ast.Store)}
+        self.assertEqual((methods | values) & pythons, {"__init__"} & methods)
+        self.assertEqual(methods & values, set())
+
     def test_imports_are_the_packages_own(self):
         for name, node in nodes(ast.ImportFrom):
             self.assertTrue(node.module.startswith("plainerlines."), f"{name}:{node.lineno}")

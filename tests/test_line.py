@@ -2,7 +2,9 @@
 
 import unittest
 
-from tests.spelling import GREATEST, ask, drop, last, line, order, raw_line, ring, shown, way, worth
+from tests.spelling import (
+    GREATEST, area, ask, counts, drop, few, last, line, order, raw_line, ring, shown, turns, way, worth,
+)
 
 SQUARE = ((100, 100), (200, 100), (200, 200), (100, 200))
 
@@ -209,11 +211,16 @@ class ToldFirst(unittest.TestCase):
 class AsItWas(unittest.TestCase):
     def test_after_each_refusal(self):
         lines = [way((0, 0), (10, 10), (20, 0)), ring(*SQUARE), apart(0), apart(1)]
-        asked = [order(), worth(0, 1), shown(100, 0), shown(150, 1)]
+        asked = [
+            order(), worth(0, 1), shown(100, 0), shown(150, 1), counts(300), few(9), area(0, 1), area(20000, 1),
+            turns(0, 1, 150, 150),
+        ]
         refused = [
             (line(2, (0, 900), (9, 900)), -1), (way((1, 1)), -1), (way((900, 900), (900, 900)), -2),
             (way((0, 20), (10, 0)), -6), (way((0, 900), (9, 900)), -5), (drop(4), -3),
-            (worth(4, 0), -3), (worth(0, 3), -4), (shown(0, 4), -3),
+            (worth(4, 0), -3), (worth(0, 3), -4), (shown(0, 4), -3), (few(8), -7), (area(0, 4), -3),
+            (area(GREATEST, 0), -4), (turns(0, 4, 1, 1), -3), (turns(GREATEST, 0, 1, 1), -4),
+            (turns(0, 1, 150, 100), -6), (turns(GREATEST, 1, 200, 200), -6),
         ]
         before = ask(*lines, *asked)[4:]
         for call, number in refused:
